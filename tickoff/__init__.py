@@ -1,0 +1,1 @@
+"""Tickoff: ticks off a bank's list against a shop's book."""
